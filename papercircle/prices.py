@@ -9,19 +9,23 @@ def check_age(age):
         raise BadAges(f"{age}")
 
 
+def check_amount(cents):
+    if cents < 0 or cents > PRICE_MOST:
+        raise BadAmount(f"{cents}")
+
+
 class Prices:
     def __init__(self):
         # For each age that has a price, the weeks from which one holds, with it, in the order of telling.
         self.told = {}
 
     def tell(self, week, age, cents):
-        check_age(age)
-        if cents < 0 or cents > PRICE_MOST:
-            raise BadAmount(f"{cents}")
-        self.check_beside(week, age, cents)
+        self.check_price(week, age, cents)
         self.told.setdefault(age, []).append((week, cents))
 
-    def check_beside(self, week, age, cents):
+    def check_price(self, week, age, cents):
+        check_age(age)
+        check_amount(cents)
         if age > 1 and cents > self.at(week, age - 1):
             raise Dearer(f"{cents} is more than a newer folder costs")
         if age < OLDEST and cents < self.at(week, age + 1):
