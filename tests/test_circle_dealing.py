@@ -298,6 +298,13 @@ class WhyTest(unittest.TestCase):
         circle.deal([1])
         self.assertEqual(circle.why(2), ([name_at(0), name_at(1), name_at(2)], [1, 2]))
 
+    def test_numbers_far_apart_rise(self):
+        circle = circle_of(["news", "art"], [("deal", 1, 3), ("deal", 0, 3), ("deal", 1, 3), ("deal", 0, 3)])
+        for place in range(5):
+            circle.join(name_at(place), "news", 1, 8)
+        circle.deal([2, 0])
+        self.assertEqual(circle.why(5), ([name_at(place) for place in range(5)], [1, 8, 15, 16]))
+
     def test_two_kinds_that_are_both_short(self):
         circle = joined(["news", "art"], {
             "zoe": ("art", 1, 8), "yves": ("news", 1, 8), "xaver": ("art", 1, 8), "will": ("news", 1, 8),

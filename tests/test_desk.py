@@ -61,6 +61,15 @@ class NoOrderTest(unittest.TestCase):
         for row in (" deal 1 1", "deal 1 1 ", "deal  1 1", "deal 1  1", "deal "):
             self.check(row)
 
+    def test_an_empty_word_where_a_word_stands(self):
+        for name, form in FORMS.items():
+            for place in range(len(form)):
+                words = good_words(form)
+                words[place] = ""
+                self.check(" ".join([name] + words))
+        for row in ("deal  1", "deal 1 ", "deal  ", " deal", " ", "houses ", " houses"):
+            self.check(row)
+
     def test_too_many_and_too_few_words(self):
         for name, form in FORMS.items():
             words = good_words(form)

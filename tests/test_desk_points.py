@@ -174,7 +174,8 @@ class DeskPointsTest(unittest.TestCase):
         told = answers_of(circle, asked)
         self.assertEqual(told, ["anna:1", "bert", "anna bert / 1", "80", "0", "80"])
         for row in (
-            "price 1 90", "lose anna 5", "wish anna news 2 2", "leave bert", "join carl news 1 8", "deal 3", "bill anna",
+            "price 1 90", "lose anna 5", "wish anna news 2 2", "leave bert", "join carl news 1 8", "deal 3",
+            "bill anna",
         ):
             self.assertFalse(answer_row(circle, row).startswith("refused"))
             self.assertEqual(answers_of(circle, asked), told)

@@ -222,5 +222,191 @@ class PlainTest(unittest.TestCase):
         self.assertEqual(sorted(ended), package_files())
 
 
+class NarrowRulesTest(unittest.TestCase):
+    def trees(self):
+        return [(name, ast.parse(text_of(name))) for name in package_files()]
+
+    def test_the_top_of_a_module(self):
+        plain = (ast.Constant, ast.List, ast.Tuple, ast.Dict, ast.Name, ast.Load)
+        for name, tree in self.trees():
+            defined = []
+            for node in tree.body[1:]:
+                with self.subTest(name, row=node.lineno):
+                    self.assertIsInstance(node, (ast.ImportFrom, ast.FunctionDef, ast.ClassDef, ast.Assign))
+                    if isinstance(node, ast.FunctionDef):
+                        defined.append(node.name)
+                    if isinstance(node, ast.Assign):
+                        self.assertIsInstance(node.targets[0], ast.Name)
+                        for part in ast.walk(node.value):
+                            self.assertIsInstance(part, plain)
+                            if isinstance(part, ast.Name):
+                                self.assertIn(part.id, defined)
+                            if part is not node.value:
+                                self.assertNotIsInstance(part, (ast.List, ast.Dict))
+            self.assertIsInstance(ast.get_docstring(tree), str)
+
+    def test_each_name_of_the_top_is_bound_once(self):
+        for name, tree in self.trees():
+            bound = []
+            for node in tree.body:
+                if isinstance(node, (ast.FunctionDef, ast.ClassDef)):
+                    bound.append(node.name)
+                if isinstance(node, ast.Assign):
+                    bound.append(node.targets[0].id)
+                if isinstance(node, ast.ImportFrom):
+                    bound.extend(alias.asname or alias.name for alias in node.names)
+            with self.subTest(name):
+                self.assertEqual(sorted(bound), sorted(set(bound)))
+
+    def test_lists_and_dicts_of_the_top_are_only_read(self):
+        for name, tree in self.trees():
+            kept = [
+                node.targets[0].id
+                for node in tree.body
+                if isinstance(node, ast.Assign) and isinstance(node.value, (ast.List, ast.Dict))
+            ]
+            read = []
+            for node in ast.walk(tree):
+                if isinstance(node, ast.Subscript) and isinstance(node.ctx, ast.Load):
+                    read.append(node.value)
+                if isinstance(node, ast.Compare):
+                    read.extend(node.comparators)
+            for node in ast.walk(tree):
+                if isinstance(node, ast.Name) and isinstance(node.ctx, ast.Load) and node.id in kept:
+                    with self.subTest(name, row=node.lineno):
+                        self.assertIn(node, read)
+
+    def test_no_local_is_called_like_a_class_or_an_import(self):
+        for name, tree in self.trees():
+            taken = {node.name for node in tree.body if isinstance(node, ast.ClassDef)}
+            for node in tree.body:
+                if isinstance(node, ast.ImportFrom):
+                    taken |= {alias.asname or alias.name for alias in node.names}
+            stored = {node.arg for node in ast.walk(tree) if isinstance(node, ast.arg)}
+            for node in ast.walk(tree):
+                if isinstance(node, ast.Name) and isinstance(node.ctx, ast.Store):
+                    stored.add(node.id)
+            with self.subTest(name):
+                self.assertEqual(sorted(stored & taken), [])
+
+    def test_names_that_are_not_used(self):
+        nowhere = "register mro elements open input version_info with_traceback add_note format format_map".split()
+        frames = r"(f|tb|co|gi|cr)_[a-z]+\Z"
+        for name, node in package_nodes():
+            used = getattr(node, "attr", None) or getattr(node, "id", None)
+            if used:
+                with self.subTest(name, used=used):
+                    self.assertNotIn(used, nowhere)
+                    self.assertIsNone(re.match(frames, used))
+
+    def test_classes_are_called_or_raised(self):
+        trees = self.trees()
+        classes = {node.name for name, tree in trees for node in tree.body if isinstance(node, ast.ClassDef)}
+        for name, tree in trees:
+            fit = []
+            for node in ast.walk(tree):
+                if isinstance(node, ast.Call):
+                    fit.append(node.func)
+                if isinstance(node, ast.ClassDef):
+                    fit.extend(node.bases)
+                if isinstance(node, ast.ExceptHandler):
+                    fit.append(node.type)
+            for node in ast.walk(tree):
+                if isinstance(node, ast.Name) and node.id in classes:
+                    with self.subTest(name, row=node.lineno):
+                        self.assertIn(node, fit)
+
+    def test_errors(self):
+        tree = ast.parse(text_of("errors.py"))
+        own = {node.name for node in tree.body if isinstance(node, ast.ClassDef)}
+        for name, node in package_nodes():
+            if isinstance(node, ast.Raise):
+                with self.subTest(name, row=node.lineno):
+                    self.assertIn(called_name(node.exc), own)
+            if isinstance(node, ast.Try):
+                with self.subTest(name, row=node.lineno):
+                    self.assertEqual(node.finalbody, [])
+                    for handler in node.handlers:
+                        self.assertIn(handler.type.id, own)
+
+    def test_no_annotation(self):
+        for name, node in package_nodes():
+            if isinstance(node, ast.FunctionDef):
+                self.assertIsNone(node.returns)
+            if isinstance(node, ast.arg):
+                self.assertIsNone(node.annotation)
+
+    def test_keywords(self):
+        allowed = {"sorted": ["key", "reverse"], "min": ["key", "default"], "max": ["key", "default"], "sum": ["start"]}
+        allowed.update({"enumerate": ["start"], "zip": ["strict"]})
+        for name, node in package_nodes():
+            if isinstance(node, ast.Call):
+                for keyword in node.keywords:
+                    with self.subTest(name, row=node.lineno):
+                        self.assertIn(keyword.arg, allowed.get(called_name(node), []))
+
+    def test_sets_are_not_kept(self):
+        for name, tree in self.trees():
+            fit = [node.args[0] for node in ast.walk(tree) if called_name(node) in ("sorted", "len") and node.args]
+            for node in ast.walk(tree):
+                with self.subTest(name):
+                    self.assertNotIsInstance(node, (ast.Set, ast.SetComp))
+                    if called_name(node) in ("set", "frozenset"):
+                        self.assertIn(node, fit)
+
+    def test_own_methods_and_values(self):
+        pythons = {name for kind in (str, int, list, dict, set, bytes) for name in dir(kind)}
+        free_methods = set(PYTHONS_METHODS) | {"add", "discard", "__init__"}
+        for name, tree in self.trees():
+            with self.subTest(name):
+                self.assertEqual(sorted(set(own_methods(tree)) & pythons - free_methods), [])
+                self.assertEqual(sorted(set(stored_values(tree)) & pythons), [])
+
+    def test_numbers_and_texts(self):
+        for name, node in package_nodes():
+            with self.subTest(name):
+                self.assertNotIsInstance(node, ast.Pow)
+                if isinstance(node, ast.Constant) and isinstance(node.value, str):
+                    self.assertNotIn("%", node.value)
+        for name in package_files():
+            self.assertNotIn("\\", text_of(name))
+
+    def test_no_method_with_two_underscores_but_init(self):
+        for name, node in package_nodes():
+            if isinstance(node, ast.FunctionDef) and node.name.startswith("__"):
+                self.assertEqual(node.name, "__init__")
+                self.assertFalse(any(isinstance(part, ast.Return) for part in ast.walk(node)))
+
+    def test_methods_are_called_where_they_stand(self):
+        trees = self.trees()
+        methods = {method for name, tree in trees for method in own_methods(tree)} | set(PYTHONS_METHODS)
+        values = {value for name, tree in trees for value in stored_values(tree)}
+        for name, tree in trees:
+            called = [node.func for node in ast.walk(tree) if isinstance(node, ast.Call)]
+            for node in ast.walk(tree):
+                if isinstance(node, ast.Attribute) and node.attr in methods - values:
+                    with self.subTest(name, row=node.lineno):
+                        self.assertIn(node, called)
+
+    def test_no_tuple_is_parted_in_an_assignment(self):
+        for name, node in package_nodes():
+            if isinstance(node, ast.Assign):
+                with self.subTest(name, row=node.lineno):
+                    self.assertNotIsInstance(node.targets[0], (ast.Tuple, ast.List))
+
+    def test_imports_come_from_the_file_that_defines_the_name(self):
+        trees = dict(self.trees())
+        for name, tree in trees.items():
+            for node in tree.body:
+                if isinstance(node, ast.ImportFrom):
+                    source = trees[node.module.split(".")[1] + ".py"]
+                    defined = {part.name for part in source.body if isinstance(part, (ast.FunctionDef, ast.ClassDef))}
+                    defined |= {part.targets[0].id for part in source.body if isinstance(part, ast.Assign)}
+                    for alias in node.names:
+                        with self.subTest(name, drawn=alias.name):
+                            self.assertIn(alias.name, defined)
+                            self.assertIsNone(alias.asname)
+
+
 if __name__ == "__main__":
     unittest.main()
